@@ -1,0 +1,1 @@
+"""Cores of fact sets: two stores of facts with known and unknown values."""
