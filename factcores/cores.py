@@ -1,7 +1,12 @@
-"""The core of a list of facts."""
+"""Redundant facts, and the core of a list of facts."""
 
 from factcores.facts import without
-from factcores.mappings import facts_under, first_mapping
+from factcores.mappings import facts_under, first_mapping, maps_into
+
+
+def redundant_facts(facts):
+    """Those of the facts that are redundant, in the order they had."""
+    return [fact for fact in facts if maps_into(facts, without(facts, fact))]
 
 
 def after_one_step(facts):

@@ -25,6 +25,6 @@ def unknowns_of(facts):
     return [value for value in values_of(facts) if is_unknown(value)]
 
 
-def without(facts, fact):
-    """The facts but this one, in the order they had."""
-    return [other for other in facts if other != fact]
+def without(members, one):
+    """The members but this one, in the order they had."""
+    return [other for other in members if other != one]

@@ -60,3 +60,11 @@ def first_completion(mapping, unassigned, facts, goals):
 def first_mapping(facts, goals):
     """The first mapping of the facts into the goals, or None if there is none."""
     return first_completion({}, unknowns_of(facts), facts, goals)
+
+
+def maps_into(facts, goals):
+    return first_mapping(facts, goals) is not None
+
+
+def are_equivalent(facts, others):
+    return maps_into(facts, others) and maps_into(others, facts)

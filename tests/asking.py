@@ -23,6 +23,26 @@ def core(store):
     return [4, store]
 
 
+def spare(store):
+    return [5, store]
+
+
+def mapping(store):
+    return [6, store]
+
+
+def same():
+    return [7]
+
+
+def alike():
+    return [8]
+
+
+def keep(store):
+    return [9, store]
+
+
 def filling(store, wanted):
     """The calls that add the wanted facts to a store, in the order given."""
     return [fact(store, *one) for one in wanted]
@@ -31,6 +51,21 @@ def filling(store, wanted):
 def listing(wanted):
     """The answer that tells the wanted facts, in the order given."""
     return [len(wanted)] + [number for one in wanted for number in one]
+
+
+def telling(assigned):
+    """The answer that tells the mapping with these values, or with None that there is none."""
+    if assigned is None:
+        return [0]
+    return [1] + [number for unknown in sorted(assigned) for number in (unknown, assigned[unknown])]
+
+
+def told_facts(answer):
+    """The facts that an answer lists."""
+    listed = [tuple(answer[start:start + 3]) for start in range(1, len(answer), 3)]
+    if listing(listed) != answer:
+        raise AssertionError(f"the number of facts does not fit: {answer}")
+    return listed
 
 
 def joined(calls):

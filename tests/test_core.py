@@ -1,10 +1,10 @@
 """The call core: which facts it lists, step by step, and its error."""
 
-import itertools
 import unittest
 
 import by_words
-from asking import ask, core, fact, facts, filling, gone, last_answer, listing
+import many_stores
+from asking import ask, core, fact, facts, filling, gone, keep, last_answer, listing, told_facts
 
 SQUARE = [(0, 100, 101), (0, 101, 102), (0, 102, 103), (0, 103, 100)]
 LINE_BOTH_WAYS = [(0, 100, 101), (0, 101, 100), (0, 101, 102), (0, 102, 101), (0, 102, 103), (0, 103, 102)]
@@ -157,46 +157,21 @@ class TheStore(unittest.TestCase):
             self.assertEqual(answers[-3:], [[-2], listing(LINE_BOTH_WAYS), [0]])
 
 
-def small_stores():
-    """All stores of up to three facts over a few values, and some of each kind over both tables."""
-    possible = list(itertools.product((0,), (1, 100, 101, 102), (1, 100, 101, 102)))
-    for count in range(4):
-        yield from itertools.combinations(possible, count)
-    yield from itertools.combinations(itertools.product((0, 1), (2, 101, 102), (2, 101, 103)), 3)
+class PointOne(many_stores.OnEachStore, unittest.TestCase):
+    def is_least_part(self, part, held):
+        """The part is told in order, the whole maps into it, and none of its facts is redundant in it."""
+        self.assertEqual(part, sorted(set(part)))
+        self.assertTrue(by_words.maps_into(held, part))
+        self.assertEqual(by_words.redundant(part), [])
 
-
-def large_stores():
-    """Stores of six facts over up to four unknown values, far apart in the list of all of them."""
-    number = 1
-    for _ in range(400):
-        held = []
-        while len(held) < 6:
-            number = (number * 1103515245 + 12345) % 2 ** 31
-            drawn = number >> 8
-            values = (1, 2, 100, 101, 102, 103)[drawn % 2:]
-            one = (drawn // 2 % 8 // 7, values[drawn // 16 % len(values)], values[drawn // 128 % len(values)])
-            if one not in held:
-                held.append(one)
-        yield held
-
-
-class PointOne(unittest.TestCase):
     def check(self, held):
-        answer = last_answer(*filling(0, held), core(0))
-        reported = [tuple(answer[start:start + 3]) for start in range(1, len(answer), 3)]
-        self.assertEqual(answer, listing(sorted(set(reported))))
-        self.assertLessEqual(set(reported), set(held))
-        self.assertTrue(by_words.maps_into(held, reported))
-        self.assertEqual(by_words.redundant(reported), [])
-        self.assertEqual(set(reported), by_words.steps(held)[-1])
-
-    def test_small_stores(self):
-        for held in small_stores():
-            self.check(held)
-
-    def test_large_stores(self):
-        for held in large_stores():
-            self.check(held)
+        answers = ask(*filling(0, held), core(0), keep(0), core(0))
+        of_the_store, kept, of_the_kept = [told_facts(answer) for answer in answers[-3:]]
+        self.is_least_part(of_the_store, held)
+        self.assertLessEqual(set(of_the_store), set(held))
+        self.assertEqual(set(of_the_store), by_words.core(held))
+        self.is_least_part(kept, held)
+        self.assertEqual(of_the_kept, kept)
 
 
 if __name__ == "__main__":
